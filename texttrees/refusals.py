@@ -1,0 +1,10 @@
+"""The refusals, without their sign: an answer has it below 0, GRANTED means that nothing is refused."""
+
+GRANTED = 0
+BEYOND = 1
+MISSING = 2
+FULL = 5
+NO_ROOM = 6
+NOWHERE = 7
+NOT_NOW = 8
+NO_POWER = 9
