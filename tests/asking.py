@@ -2,6 +2,7 @@
 
 from texttrees.editing import Editor
 from texttrees.editors import CALLS, answers, split_calls
+from texttrees.records import record
 
 EMPTY_SIZE = 19  # head 3, record 5 without text 7, record 7 without pairs 9
 TOP = 4294967295
@@ -48,6 +49,38 @@ def turn():
     return [8]
 
 
+def power(*arrived):
+    return [9, len(arrived)] + list(arrived)
+
+
+def start():
+    return [10]
+
+
+def text(state):
+    return [11, state]
+
+
+def tree():
+    return [12]
+
+
+def file(which):
+    return [13, which]
+
+
+def spoil(which, place, byte):
+    return [14, which, place, byte]
+
+
+def state():
+    return [15]
+
+
+def was(many):
+    return [16, many]
+
+
 def joined(calls):
     return [number for call in calls for number in call]
 
@@ -83,5 +116,26 @@ def editor_after(*calls):
     return editor
 
 
+def written(*bodies):
+    """The records of these bodies, one behind another."""
+    return joined(record(body) for body in bodies)
+
+
+def powerless(*files):
+    """An editor without power, with these bytes on its disk."""
+    editor = editor_after(power())
+    editor.disk.files = [list(data) for data in files]
+    return editor
+
+
+def spoil_all(which, places):
+    """A list of calls that spoils each of these places, told with its byte."""
+    return [spoil(which, place, places[place]) for place in places]
+
+
 def states_after(*calls):
-    return sorted(editor_after(*calls).tree.texts)
+    return editor_after(*calls).tree.numbers()
+
+
+def texts_of(of):
+    return {number: of.text_of(number) for number in of.numbers()}

@@ -12,7 +12,7 @@ class Change(unittest.TestCase):
     def test_what_goes_out_and_comes_in(self):
         calls = [change(0, 0, b"abcdef"), change(2, 3, b"XY"), change(5, 0, b"!"), change(0, 1, b"")]
         tree = editor_after(*calls).tree
-        self.assertEqual([bytes(tree.texts[state]) for state in range(5)],
+        self.assertEqual([bytes(tree.text_of(state)) for state in range(5)],
                          [b"", b"abcdef", b"abXYf", b"abXYf!", b"bXYf!"])
         self.assertEqual(last(*calls), [4, 5, 4, 56])
 

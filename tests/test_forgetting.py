@@ -1,6 +1,6 @@
 import unittest
 
-from asking import TOP, ask, editor_after, forget, goto, keep, last, states_after, typed, undo
+from asking import TOP, ask, editor_after, forget, goto, keep, last, states_after, texts_of, typed, undo
 
 CHAIN = [typed(1), typed(1), typed(1)]
 # 1, 2 and 3 are made of 0, which is now
@@ -71,13 +71,13 @@ class Forget(unittest.TestCase):
 
     def test_the_new_first_has_its_text_as_it_was(self):
         tree = editor_after(*CHAIN, forget(2)).tree
-        self.assertEqual((tree.first, tree.texts, tree.parents), (2, {2: [7, 7], 3: [7, 7, 7]}, {3: 2}))
+        self.assertEqual((tree.first, texts_of(tree), tree.parents), (2, {2: [7, 7], 3: [7, 7, 7]}, {3: 2}))
         self.assertEqual(tree.changes, {3: (0, 0, [7])})
         self.assertEqual(last(*CHAIN, forget(2), undo()), [2, 2, 5, 55])
 
     def test_nothing_is_left_of_ends_that_went(self):
         tree = editor_after(*STAR, forget(2)).tree
-        self.assertEqual((tree.texts, tree.parents, tree.changes, tree.kept),
+        self.assertEqual((texts_of(tree), tree.parents, tree.changes, tree.kept),
                          ({0: [], 3: [7, 7, 7]}, {3: 0}, {3: (0, 0, [7, 7, 7])}, {0: 0, 3: 0}))
 
     def test_the_first_stays_if_it_is_now_or_kept(self):

@@ -1,11 +1,11 @@
-"""Points 1 and 2: which refusal comes first, and that all is as it was behind one."""
+"""Points 1 to 3: which refusal comes first, and that all is as it was behind one."""
 
 import copy as copies
 import random
 import unittest
 
-from asking import (TOP, change, copy, editor_after, flush, forget, goto, keep, last, redo, tell, turn, typed,
-                    undo)
+from asking import (TOP, ask, change, copy, editor_after, file, flush, forget, goto, keep, last, power, redo, spoil,
+                    start, state, tell, text, tree, turn, typed, undo, was)
 from texttrees.editing import Editor
 
 # Refused and granted ones: -9 and -8 come ahead of what each would answer.
@@ -13,6 +13,9 @@ DEEDS = [change(TOP, 0, [1]), change(0, 0, [256]), typed(81), undo(), redo(), go
          forget(256), typed(1), goto(0), keep(0), forget(1)]
 OWN = [(change(TOP, 0, [1]), -1), (change(0, 0, [256]), -1), (typed(81), -5), (undo(), -7), (redo(), -7),
        (goto(TOP), -2), (keep(TOP), -2), (keep(TOP, 0), -2), (forget(0), -1), (forget(256), -1)]
+OTHERS = [(text(TOP), -2), (was(TOP), -2), (turn(), -8), (start(), -9), (spoil(0, 0, 1), -9), (spoil(0, TOP, TOP), -9)]
+NEED_POWER = DEEDS + [flush(), copy(), turn(), power(), power(6), text(0), text(TOP), tree()]
+WITHOUT_POWER = [(spoil(0, TOP, 0), -1), (spoil(0, 0, 256), -1), (spoil(1, 0, 0), -1), (was(TOP), -2), (start(), -6)]
 
 
 def snapshot(thing):
@@ -25,26 +28,54 @@ def snapshot(thing):
 
 
 def any_call(source):
-    sort = source.randrange(12)
-    state = source.choice([0, 1, 2, 3, 4, 5, 6, 7, 40, TOP])
-    if sort < 3:
+    sort = source.randrange(22)
+    number = source.choice([0, 1, 2, 3, 4, 5, 6, 7, 40, TOP])
+    if sort < 4:
         put = [source.choice([0, 65, 255]) for k in range(source.choice([0, 1, 2, 40, 81]))]
         put = put + source.choice([[], [], [], [256]])
         return change(source.choice([0, 0, 1, 30, 80, TOP]), source.choice([0, 0, 1, 30, TOP]), put)
-    if sort == 3:
+    if sort == 4:
         return forget(source.choice([0, 1, 2, 5, 255, 256]))
-    return [undo(), redo(), goto(state), keep(state, source.randrange(2)), flush(), copy(), turn(),
-            typed(1)][sort - 4]
+    if sort == 5:
+        return power(*[source.choice([0, 5, 9, TOP]) for k in range(source.randrange(5))])
+    if sort == 6:
+        which = source.randrange(2)
+        return spoil(which, source.choice([0, 1, 2, 30, 70, TOP]), source.choice([0, 7, 255, 256]))
+    return [undo(), redo(), goto(number), keep(number, source.randrange(2)), flush(), copy(), turn(), typed(1), start(),
+            start(), text(number), tree(), file(source.randrange(2)), state(), was(number)][sort - 7]
 
 
 class Order(unittest.TestCase):
     def test_no_power_is_first(self):
-        for call in DEEDS + [flush(), copy(), turn()]:
+        for call in NEED_POWER:
             for copying in (False, True):
                 editor = Editor()
                 editor.powered = False
                 editor.copying = copying
                 self.assertEqual(tell(editor, call), [-9], call)
+
+    def test_no_power_is_first_behind_power_too(self):
+        for calls in ([], [typed(2), typed(1), undo()], [copy()], [copy(), turn()]):
+            for call in NEED_POWER:
+                self.assertEqual(last(*calls, power(), call), [-9], call)
+                self.assertNotEqual(last(*calls, power(), start(), call), [-9], call)
+
+    def test_power_is_there(self):
+        for call in (start(), spoil(0, 0, 1), spoil(1, TOP, TOP)):
+            self.assertEqual(last(call), [-9])
+            self.assertEqual(last(copy(), call), [-9])
+            self.assertEqual(last(power(), start(), call), [-9])
+
+    def test_those_that_ask_for_no_power_at_all(self):
+        for call in (file(0), file(1), state(), was(0)):
+            self.assertGreaterEqual(last(call)[0], 0)
+            self.assertGreaterEqual(last(power(), call)[0], 0)
+            self.assertGreaterEqual(last(power(), spoil(0, 2, 0), start(), call)[0], 0)
+            self.assertGreaterEqual(last(copy(), call)[0], 0)
+
+    def test_a_copy_being_made_refuses_no_other_call(self):
+        self.assertEqual(ask(copy(), text(0), tree(), was(0), was(1), text(1), flush(), power(), start())[1:],
+                         [[0], [0, 1, 0, 0, 0], [0, 1, 0], [-2], [-2], [1, 0], [0], [0, 0, 0, 0]])
 
     def test_a_copy_being_made_is_next(self):
         for call in DEEDS + [copy()]:
@@ -79,10 +110,17 @@ class Order(unittest.TestCase):
 
 class AsItWas(unittest.TestCase):
     def test_behind_each_refusal(self):
-        for call, refusal in OWN:
+        for call, refusal in OWN + OTHERS:
             editor = editor_after(typed(1), flush(), forget(1))
             before = snapshot(editor)
             self.assertEqual(tell(editor, call), [refusal])
+            self.assertEqual(snapshot(editor), before)
+
+    def test_behind_each_refusal_without_power(self):
+        for call, refusal in [(call, -9) for call in NEED_POWER] + WITHOUT_POWER:
+            editor = editor_after(typed(1), flush(), forget(1), typed(2), power(3), spoil(0, 2, 0))
+            before = snapshot(editor)
+            self.assertEqual(tell(editor, call), [refusal], call)
             self.assertEqual(snapshot(editor), before)
 
     def test_behind_refusals_of_a_full_file_and_without_power(self):
@@ -107,7 +145,15 @@ class AsItWas(unittest.TestCase):
                     met[answer[0]] = True
                     self.assertEqual(len(answer), 1)
                     self.assertEqual(snapshot(editor), before)
-        self.assertEqual(sorted(met), [-8, -7, -5, -2, -1])
+        self.assertEqual(sorted(met), [-9, -8, -7, -6, -5, -2, -1])
+
+    def test_what_only_tells_changes_nothing(self):
+        for calls in ([typed(1), flush(), typed(2), undo()], [typed(1), copy()], [typed(1), power()]):
+            editor = editor_after(*calls)
+            before = snapshot(editor)
+            for call in (text(0), text(1), tree(), file(0), file(1), state(), was(0), was(1)):
+                tell(editor, call)
+                self.assertEqual(snapshot(editor), before)
 
     def test_refused_calls_change_no_later_answer(self):
         for seed in range(100):

@@ -2,6 +2,7 @@
 
 from texttrees.records import FORGET, GO, KEEP, MAKE
 from texttrees.refusals import BEYOND, FULL, GRANTED, MISSING, NO_ROOM
+from texttrees.trees import Tree
 
 LONGEST_TEXT = 80
 MOST_NUMBERS = 40
@@ -18,22 +19,28 @@ def refusal_of_deed(tree, deed):
 
 def refusal_of_its_sort(tree, deed):
     if deed[0] == MAKE:
-        return refusal_of_make(tree, deed[1], deed[2], deed[3:])
+        return refusal_of_make(tree, deed)
     if deed[0] == FORGET:
         return GRANTED if 1 <= deed[1] <= HIGHEST_BYTE else BEYOND
-    return GRANTED if deed[1] in tree.texts else MISSING
+    return GRANTED if tree.has(deed[1]) else MISSING
 
 
-def refusal_of_make(tree, place, out, put):
-    length = len(tree.text_now())
-    if place + out > length or max(put, default=0) > HIGHEST_BYTE:
+def refusal_of_make(tree, deed):
+    refusal = refusal_of_change(tree.text_now(), deed[1], deed[2], deed[3:])
+    if refusal == GRANTED and tree.given >= MOST_NUMBERS:
+        return FULL
+    return refusal
+
+
+def refusal_of_change(text, place, out, put):
+    if place + out > len(text) or max(put, default=0) > HIGHEST_BYTE:
         return BEYOND
-    if length - out + len(put) > LONGEST_TEXT or tree.given >= MOST_NUMBERS:
+    if len(text) - out + len(put) > LONGEST_TEXT:
         return FULL
     return GRANTED
 
 
-# Only for a deed that is not refused.
+# It refuses nothing: what is remembered is done to whatever tree it meets.
 def do_deed(tree, deed):
     if deed[0] == MAKE:
         tree.make(deed[1], deed[2], deed[3:])
@@ -44,3 +51,11 @@ def do_deed(tree, deed):
     else:
         tree.forget(deed[1])
     tree.deeds = tree.deeds + 1
+
+
+# From a line's beginning on.
+def tree_made_by(deeds):
+    tree = Tree(0, [])
+    for deed in deeds:
+        do_deed(tree, deed)
+    return tree

@@ -2,6 +2,7 @@
 
 from texttrees.editing import Editor
 from texttrees.records import FORGET, GO, KEEP, MAKE
+from texttrees.telling import file_told, past_told, state_told, text_told, tree_told
 
 
 def change(editor, given):
@@ -44,10 +45,43 @@ def turn(editor, given):
     return editor.turn()
 
 
+def power(editor, given):
+    return editor.lose_power(given)
+
+
+def start(editor, given):
+    return editor.start_anew()
+
+
+def tell_text(editor, given):
+    return text_told(editor, given[0])
+
+
+def tell_tree(editor, given):
+    return tree_told(editor)
+
+
+def tell_file(editor, given):
+    return file_told(editor, given[0])
+
+
+def spoil(editor, given):
+    return editor.spoil(given[0], given[1], given[2])
+
+
+def tell_state(editor, given):
+    return state_told(editor)
+
+
+def was(editor, given):
+    return past_told(editor, given[0])
+
+
 # These three are asked by a call's number: what answers it, how many whole numbers it has, whether a row follows.
-CALLS = (change, undo, redo, goto, keep, forget, flush, begin_copy, turn)
-WHOLE_NUMBERS = (2, 0, 0, 1, 2, 1, 0, 0, 0)
-ROWS = (1, 0, 0, 0, 0, 0, 0, 0, 0)
+CALLS = (change, undo, redo, goto, keep, forget, flush, begin_copy, turn, power, start, tell_text, tell_tree,
+         tell_file, spoil, tell_state, was)
+WHOLE_NUMBERS = (2, 0, 0, 1, 2, 1, 0, 0, 0, 0, 0, 1, 0, 1, 3, 0, 1)
+ROWS = (1, 0, 0, 0, 0, 0, 0, 0, 0, 1, 0, 0, 0, 0, 0, 0, 0)
 
 
 # Each call by itself: its number and what it was given, without the count ahead of its row.
